@@ -104,21 +104,18 @@ func Fresh(room int) Heap {
 
 // Resolve is what a word leads to in a sound heap.
 func Resolve(h Heap, w Word) Word {
-	v := open(h)
-	if v.fault() != 0 || !v.formed(w) {
+	v, ok := sound(h)
+	if !ok || !v.formed(w) {
 		return Word{}
 	}
-	n := v.find(w)
+	n := v.follow(w)
 	if n == nil {
 		return w
 	}
-	switch n.cell.State {
-	case SMoved:
-		return Word{Kind: WAt, At: n.cell.To}
-	case SUsed:
-		return w
+	if n.cell.State != SUsed {
+		return Word{}
 	}
-	return Word{}
+	return Word{Kind: WAt, At: n.place}
 }
 
 // least is a heap whose first item is the least that was put into it and not taken yet.
@@ -225,6 +222,15 @@ func open(h Heap) *view {
 	return v
 }
 
+// sound is the view of a heap that keeps all rules.
+func sound(h Heap) (*view, bool) {
+	v := open(h)
+	if v.fault() != 0 {
+		return nil, false
+	}
+	return v, true
+}
+
 // fault asks the rules in order, so that each of them can lean on those before it.
 func (v *view) fault() int {
 	rules := [8]func() bool{
@@ -322,8 +328,8 @@ func (v *view) movedKept(n *node) bool {
 func (v *view) roomKept() bool {
 	units := 0
 	for i := range v.nodes {
-		if c := v.nodes[i].cell; c.State == SUsed {
-			units += 1 + len(c.Pairs)
+		if v.nodes[i].cell.State == SUsed {
+			units += v.nodes[i].units()
 		}
 	}
 	return v.heap.Used == units && units <= v.heap.Room
@@ -405,6 +411,15 @@ func (v *view) find(w Word) *node {
 	return &v.nodes[w.At]
 }
 
+// follow is the cell to which a formed word leads, nil when it holds no place.
+func (v *view) follow(w Word) *node {
+	n := v.find(w)
+	if n != nil && n.cell.State == SMoved {
+		return &v.nodes[n.cell.To]
+	}
+	return n
+}
+
 // doomed tells whether the sweep that is on will free the cell.
 func (v *view) doomed(n *node) bool {
 	return v.heap.Phase == PSweep && n.white() && n.place >= v.heap.Hand
@@ -419,6 +434,11 @@ func (v *view) mended(n *node, pair int) bool {
 		return n.place < v.heap.Hand || n.place == v.heap.Hand && pair < v.heap.Sub
 	}
 	return true
+}
+
+// units is the room that the cell takes while it is used.
+func (n *node) units() int {
+	return 1 + len(n.cell.Pairs)
 }
 
 func (n *node) white() bool {
