@@ -108,14 +108,10 @@ func Resolve(h Heap, w Word) Word {
 	if !ok || !v.formed(w) {
 		return Word{}
 	}
-	n := v.follow(w)
-	if n == nil {
-		return w
-	}
-	if n.cell.State != SUsed {
+	if n := v.find(w); n != nil && n.cell.State == SFree {
 		return Word{}
 	}
-	return Word{Kind: WAt, At: n.place}
+	return v.resolved(w)
 }
 
 // least is a heap whose first item is the least that was put into it and not taken yet.
@@ -418,6 +414,20 @@ func (v *view) follow(w Word) *node {
 		return &v.nodes[n.cell.To]
 	}
 	return n
+}
+
+// resolved is what a formed word leads to, as a word.
+func (v *view) resolved(w Word) Word {
+	n := v.follow(w)
+	if n == nil {
+		return w
+	}
+	return n.word()
+}
+
+// word is the one that holds the cell's place.
+func (n *node) word() Word {
+	return Word{Kind: WAt, At: n.place}
 }
 
 // doomed tells whether the sweep that is on will free the cell.

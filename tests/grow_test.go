@@ -156,10 +156,16 @@ func colorSweep(d *dice, h *impl.Heap) {
 	}
 }
 
-// moveAbout moves some cells or all, and mends and closes as far as the Phase asks.
+// moveAbout moves some cells or all, and mends and closes as far as the Phase asks. Behind PMove moved cells may lie in any way.
 func moveAbout(d *dice, h *impl.Heap, phase int) {
 	h.Phase = phase
-	for (phase != impl.PMove || d.below(4) > 0) && slowMove(h) {
+	all := phase != impl.PMove && d.below(2) == 0
+	for (all || d.below(4) > 0) && slowMove(h) {
+	}
+	for range d.below(5) {
+		if phase != impl.PMove {
+			strayMove(d, h)
+		}
 	}
 	if phase == impl.PMend {
 		h.Hand = d.below(len(h.Cells) + 1)
@@ -198,13 +204,31 @@ func slowMove(h *impl.Heap) bool {
 	if least >= greatest {
 		return false
 	}
-	h.Cells[least], h.Cells[greatest] = h.Cells[greatest], moved(least)
+	slowCarry(h, greatest, least)
+	return true
+}
+
+func slowCarry(h *impl.Heap, from, to int) {
+	h.Cells[to], h.Cells[from] = h.Cells[from], moved(to)
 	for i, w := range h.Regs {
-		if w == at(greatest) {
-			h.Regs[i] = at(least)
+		if w == at(from) {
+			h.Regs[i] = at(to)
 		}
 	}
-	return true
+}
+
+// strayMove moves some cell to some free place below it, but none that has moved before.
+func strayMove(d *dice, h *impl.Heap) {
+	from := d.below(len(h.Cells))
+	to := d.below(from + 1)
+	for _, c := range h.Cells {
+		if c.State == impl.SMoved && c.To == from {
+			return
+		}
+	}
+	if h.Cells[from].State == impl.SUsed && h.Cells[to].State == impl.SFree {
+		slowCarry(h, from, to)
+	}
 }
 
 func slowMend(h impl.Heap, p *impl.Pair) {
