@@ -445,9 +445,8 @@ func withRoom(h impl.Heap) impl.Heap {
 	return h
 }
 
-// A chain of keys through as many weak cells as there is room for, held by lists of them.
-func TestGreatChainOfKeys(t *testing.T) {
-	const tables = 1100
+// greatChain is a chain of keys through that many weak cells, a multiple of 220, held by lists of them.
+func greatChain(tables int) impl.Heap {
 	h := heapOf(impl.PIdle)
 	for i := range tables {
 		h.Cells = append(h.Cells, weak(1, used(1+i, pair(at(tables+i), at(tables+i+1)))))
@@ -463,7 +462,12 @@ func TestGreatChainOfKeys(t *testing.T) {
 		h.Regs[place/220] = at(len(h.Cells))
 		h.Cells = append(h.Cells, list)
 	}
-	h = withRoom(h)
+	return withRoom(h)
+}
+
+func TestGreatChainOfKeys(t *testing.T) {
+	const tables = 1100
+	h := greatChain(tables)
 	wantRule(t, "tables", h, 0)
 	if got := impl.Counted(h); got != h.Used-tables-1 || impl.Live(h) != h.Used {
 		t.Error("let go:", got, impl.Live(h), h.Used)
