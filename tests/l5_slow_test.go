@@ -130,9 +130,9 @@ func slowEffect(h *impl.Heap, a impl.Act) int64 {
 	case impl.ACopy:
 		h.Regs[a.A] = h.Regs[a.B]
 	case impl.AKey:
-		h.Regs[a.A] = slowResolve(*h, h.Cells[h.Regs[a.B].At].Pairs[a.C].Key)
+		h.Regs[a.A] = slowFollow(*h, h.Cells[h.Regs[a.B].At].Pairs[a.C].Key)
 	case impl.AVal:
-		h.Regs[a.A] = slowResolve(*h, h.Cells[h.Regs[a.B].At].Pairs[a.C].Val)
+		h.Regs[a.A] = slowFollow(*h, h.Cells[h.Regs[a.B].At].Pairs[a.C].Val)
 	case impl.ASetKey:
 		h.Cells[h.Regs[a.A].At].Pairs[a.C].Key = h.Regs[a.B]
 		slowShade(h, slowLead(*h, h.Regs[a.B]))
@@ -155,6 +155,14 @@ func slowEffect(h *impl.Heap, a impl.Act) int64 {
 		return slowAtCell(h, a)
 	}
 	return 0
+}
+
+// slowFollow is what a word leads to, as a word.
+func slowFollow(h impl.Heap, w impl.Word) impl.Word {
+	if place := slowLead(h, w); place >= 0 {
+		return at(place)
+	}
+	return w
 }
 
 // slowAtCell are the acts on A's cell, and those that only answer.
